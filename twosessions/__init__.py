@@ -1,0 +1,1 @@
+"""Two sessions over one store: clashes and merges."""

@@ -1,0 +1,32 @@
+"""The interface: calls on one object, and what they answer."""
+
+from twosessions.calls import CHANGED, CLASHES, FILL, LOAD, SET, WRITTEN, read_calls
+from twosessions.held import Held
+
+
+def answers(calls):
+    """For each call, in order, how many numbers are answered, and these."""
+    held = Held()
+    told = []
+    for call, singles, listed in read_calls(calls):
+        answer = answer_call(held, call, singles, listed)
+        told.append(len(answer))
+        told.extend(answer)
+    return told
+
+
+def answer_call(held, call, singles, listed):
+    if call == LOAD:
+        return held.load(listed)
+    if call == WRITTEN:
+        return held.written()
+    if call == FILL:
+        return held.fill(listed)
+    if call == SET:
+        return held.set_own(singles[0], listed)
+    if call == CHANGED:
+        return held.changed(singles[0])
+    if call == CLASHES:
+        return held.clashes(singles[0], singles[1])
+    # The other six are read, so that the calls behind them are answered, but not built yet.
+    return []
