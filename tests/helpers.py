@@ -1,7 +1,5 @@
 """Calls as texts and lists, and their answers one by one."""
 
-from twosessions.held import Held
-from twosessions.rows import read_tables
 from twosessions.store import answers
 
 
@@ -41,6 +39,34 @@ def clashes(session, mode):
     return [5, session, mode]
 
 
+def merged(session, mode, choices=()):
+    return [6, session, mode] + with_length(choices)
+
+
+def commit(session, mode, choices=()):
+    return [7, session, mode] + with_length(choices)
+
+
+def refresh(session, mode, choices=()):
+    return [8, session, mode] + with_length(choices)
+
+
+def tables(side):
+    return [9, side]
+
+
+def orders(mode):
+    return [10, mode]
+
+
+def size():
+    return [11]
+
+
+# Whoever asks these sees all that the object holds.
+ALL_HELD = (written(), tables(0), tables(1), tables(2), size())
+
+
 def ask(*calls):
     """The answers of the calls on one new object, a list for each."""
     told = answers([number for call in calls for number in call])
@@ -69,11 +95,14 @@ def form_of(text):
     return "".join([chr(number) for number in answer[1:]])
 
 
-def held_with(text, began, store, own):
-    """An object whose session 0 has these rows, as it may come to them by commits."""
-    held = Held()
-    assert held.load(as_bytes(text))[0] == 0
-    held.began = [read_tables(held.schema, began), held.began[1]]
-    held.store = read_tables(held.schema, store)
-    held.own = [read_tables(held.schema, own), held.own[1]]
-    return held
+def behind(begin, *calls):
+    """The answers of the calls, made behind others that all answer 0 first."""
+    told = ask(*begin, *calls)
+    assert all(answer[0] == 0 for answer in told[:len(begin)]), told
+    return told[len(begin):]
+
+
+def sides(text, began, store, own, session=0):
+    """Calls behind which the session began with these rows, the store has these, and the session has these."""
+    other = 1 - session
+    return (load(text), fill(began), set_own(other, store), commit(other, 0), set_own(session, own))

@@ -1,6 +1,6 @@
 import unittest
 
-from tests.helpers import ask, clashes, fill, held_with, last, load, set_own
+from tests.helpers import ALL_HELD, ask, behind, clashes, commit, fill, last, load, refresh, set_own, sides
 
 ONE = "table t{a:number;b:number;}"
 TWO = "table t{a:number;b:number;}table u{c:number;}"
@@ -8,9 +8,9 @@ TWO = "table t{a:number;b:number;}table u{c:number;}"
 
 class Clashes(unittest.TestCase):
     def sides(self, text, began, store, own, by_rows, by_fields):
-        held = held_with(text, began, store, own)
-        self.assertEqual(held.clashes(0, 0), [0, len(by_rows) // 7] + by_rows)
-        self.assertEqual(held.clashes(0, 1), [0, len(by_fields) // 7] + by_fields)
+        for session in (0, 1):
+            self.assertEqual(behind(sides(text, began, store, own, session), clashes(session, 0), clashes(session, 1)),
+                             [[0, len(by_rows) // 7] + by_rows, [0, len(by_fields) // 7] + by_fields])
 
     def test_none_where_only_one_changed(self):
         self.sides(ONE, [1, 1, 5, 5], [1, 1, 6, 6], [1, 1, 5, 5], [], [])
@@ -70,11 +70,27 @@ class Clashes(unittest.TestCase):
                     2, 0, 9, 0, 0, 0, 0, 0, 1, 1, 0, 5, 6, 7, 3, 1, 4, 0, 0, 0, 1])
 
     def test_each_session_has_its_own(self):
-        held = held_with(ONE, [1, 3, 5, 5], [0], [1, 3, 5, 6])
-        self.assertEqual(held.clashes(0, 0), [0, 1, 1, 0, 3, 0, 0, 0, 0])
-        self.assertEqual(held.clashes(1, 0), [0, 0])
+        begin = sides(ONE, [1, 3, 5, 5], [0], [1, 3, 5, 6])
+        self.assertEqual(behind(begin, clashes(0, 0), clashes(1, 0)), [[0, 1, 1, 0, 3, 0, 0, 0, 0], [0, 0]])
 
-    def test_as_calls(self):
+    def test_behind_a_refresh_there_is_none(self):
+        begin = sides(ONE, [1, 3, 5, 5], [1, 3, 6, 6], [1, 3, 7, 5])
+        self.assertEqual(behind(begin, clashes(0, 1), refresh(0, 1, [1]), clashes(0, 0), clashes(0, 1)),
+                         [[0, 1, 0, 0, 3, 0, 5, 6, 7], [0, 1], [0, 0], [0, 0]])
+
+    def test_clashes_of_both_sessions(self):
+        # The store is otherwise than either began: each committed and then changed on.
+        begin = (load(ONE), fill([1, 3, 5, 5]), set_own(0, [1, 3, 6, 5]), commit(0, 0), set_own(1, [1, 3, 5, 7]),
+                 commit(1, 1), set_own(0, [1, 3, 6, 8]), set_own(1, [0]))
+        self.assertEqual(behind(begin, clashes(0, 0), clashes(0, 1), clashes(1, 0), clashes(1, 1)),
+                         [[0, 1, 4, 0, 3, 0, 0, 0, 0], [0, 1, 0, 0, 3, 1, 5, 7, 8], [0, 0], [0, 0]])
+
+    def test_clashes_changes_nothing(self):
+        begin = sides(ONE, [1, 3, 5, 5], [1, 3, 6, 6], [1, 3, 7, 5])
+        self.assertEqual(behind(begin, clashes(0, 0), clashes(0, 1), clashes(9, 0), *ALL_HELD)[3:],
+                         behind(begin, *ALL_HELD))
+
+    def test_the_store_as_the_session_began(self):
         begin = (load(ONE), fill([1, 1, 5, 5]), set_own(0, [1, 1, 6, 6]))
         for session in (0, 1):
             for mode in (0, 1):

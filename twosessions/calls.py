@@ -6,6 +6,11 @@ FILL = 2
 SET = 3
 CHANGED = 4
 CLASHES = 5
+MERGED = 6
+COMMIT = 7
+REFRESH = 8
+TABLES = 9
+ORDERS = 10
 
 # For each call, by its number: how many single numbers it has, and whether a list stands behind them.
 SINGLE_NUMBERS = (0, 0, 0, 1, 1, 2, 2, 2, 2, 1, 1, 0)

@@ -45,3 +45,14 @@ def read_rows(numbers, width):
 
 def are_values(row):
     return all([abs(value) <= FARTHEST for value in row])
+
+
+def numbers_of(tables):
+    """All tables' rows, told so that read_tables makes the same tables of them."""
+    numbers = []
+    for rows in tables:
+        numbers.append(len(rows))
+        for row_id in sorted(rows):
+            numbers.append(row_id)
+            numbers.extend(rows[row_id])
+    return numbers

@@ -1,9 +1,20 @@
-"""Whether tables are good: which row breaks a rule first, and which one."""
+"""Whether tables are good: which row breaks a rule first, and which one; and whether they have too many rows."""
+
+from twosessions.rows import MOST_ROWS
 
 OUT_OF_RANGE = 2
 NO_SUCH_ROW = 3
 NOT_UNIQUE = 4
+TOO_MANY_ROWS = 5
 NOTHING_BROKEN = 0
+
+
+def first_unfit(schema, tables):
+    """As first_broken, of tables that may have too many rows, which counts ahead of all rules."""
+    for number, rows in enumerate(tables):
+        if len(rows) > MOST_ROWS:
+            return [TOO_MANY_ROWS, number, 0, 0]
+    return first_broken(schema, tables)
 
 
 def first_broken(schema, tables):

@@ -1,6 +1,7 @@
 """The interface: calls on one object, and what they answer."""
 
-from twosessions.calls import CHANGED, CLASHES, FILL, LOAD, SET, WRITTEN, read_calls
+from twosessions.calls import CHANGED, CLASHES, COMMIT, FILL, LOAD, MERGED, ORDERS, REFRESH, SET, TABLES, WRITTEN
+from twosessions.calls import read_calls
 from twosessions.held import Held
 
 
@@ -28,5 +29,15 @@ def answer_call(held, call, singles, listed):
         return held.changed(singles[0])
     if call == CLASHES:
         return held.clashes(singles[0], singles[1])
-    # The other six are read, so that the calls behind them are answered, but not built yet.
-    return []
+    if call == MERGED:
+        return held.merged(singles[0], singles[1], listed)
+    if call == COMMIT:
+        return held.commit(singles[0], singles[1], listed)
+    if call == REFRESH:
+        return held.refresh(singles[0], singles[1], listed)
+    if call == TABLES:
+        return held.tables(singles[0])
+    if call == ORDERS:
+        return held.orders(singles[0])
+    # Only size is left.
+    return held.size()
